@@ -1,0 +1,1 @@
+"""Mastline: masts joined by as little cable as can be."""

@@ -1,0 +1,9 @@
+"""The refusals."""
+
+
+class MastError(ValueError):
+    pass
+
+
+class NoMast(MastError):
+    pass
